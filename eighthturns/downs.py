@@ -40,10 +40,11 @@ def mate_of(rays):
     pairs = pairs_alike(rays)
     # Rest 0: 2 divides sum and difference, and both RAYS come down at once.
     # If no pair does, two of kind 1 are left, and rest 1 makes them two of
-    # kind 2, of which there is always a pair that does.
+    # kind 2, of which there is always a pair that does. Turns and 4 more make
+    # the same but for a swap: those are tried that are fewer on the way back.
     for rest in (0, 1):
         for i, j in pairs:
-            for turns in range(4):
+            for turns in (0, 7, 6, 5):
                 if differ_by_rest(wholes[i], turned_ray(wholes[j], turns), rest):
                     return i, j, turns
     return None
