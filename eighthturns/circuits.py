@@ -3,9 +3,8 @@
 from eighthturns.deeds import deeds_done, deeds_of_circuit, deeds_table
 from eighthturns.errors import NoPaper, Unfit
 from eighthturns.gates import GATE_WIRES, check_wires
-from eighthturns.rays import turned_ray
 from eighthturns.shapes import are_below, frozen, is_below, is_number
-from eighthturns.tables import columns_of, like_turn
+from eighthturns.tables import columns_of, like_turn, turns_to
 
 WORDS_BACK = {"T": ("Z", "S", "T"), "S": ("Z", "S"), "W": ("W", "W", "W", "W", "W", "W", "W")}
 
@@ -120,17 +119,9 @@ def is_parting_place(one, other, thing):
     return circuit_columns(one)[thing] != circuit_columns(other)[thing]
 
 
-def column_turn(column, wanted):
-    """How many turns of each RAY of column make wanted of it, or None."""
-    for many in range(8):
-        if tuple([turned_ray(ray, many) for ray in column]) == wanted:
-            return many
-    return None
-
-
 def column_turns(one, other):
     """For each place the turns that make the column of other of that of one, or None."""
-    return [column_turn(left, right) for left, right in zip(circuit_columns(one), circuit_columns(other))]
+    return [turns_to(left, right) for left, right in zip(circuit_columns(one), circuit_columns(other))]
 
 
 def parting_pair(one, other):

@@ -6,7 +6,7 @@ from eighthturns.errors import Unfit
 from eighthturns.made import deeds_up
 from eighthturns.rays import mixed_rays, size_of, turned_ray, twin_of
 from eighthturns.shapes import frozen
-from eighthturns.tables import are_rays, mirror_product, sizes_make_one
+from eighthturns.tables import are_rays, mirror_product, sizes_make_one, turns_to
 
 
 def is_state(thing):
@@ -105,11 +105,7 @@ def product_of(one, other):
 def like_states(one, other):
     """How many turns of each RAY make other of one, or None."""
     check_places_alike(one, other)
-    wanted = frozen(other)
-    for many in range(8):
-        if tuple([turned_ray(ray, many) for ray in one]) == wanted:
-            return many
-    return None
+    return turns_to(one, frozen(other))
 
 
 def twin_state(state):

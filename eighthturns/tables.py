@@ -144,18 +144,18 @@ def minors_behind(minors, row):
     return {bits: rays_added(parts[bits]) for bits in parts}
 
 
-def turned_rows(rows, many):
-    """These rows, each RAY times w so many times."""
-    return tuple([tuple([turned_ray(ray, many) for ray in row]) for row in rows])
+def turns_to(rays, wanted):
+    """The least number of turns of each of these RAYS that make wanted of them, or None."""
+    for many in range(8):
+        if tuple([turned_ray(ray, many) for ray in rays]) == wanted:
+            return many
+    return None
 
 
 def like_turn(one, other):
     """The least number of turns of each RAY that make one of other, or None."""
-    wanted = frozen(one)
-    for many in range(8):
-        if turned_rows(other, many) == wanted:
-            return many
-    return None
+    rays = [ray for row in other for ray in row]
+    return turns_to(rays, frozen([ray for row in one for ray in row]))
 
 
 def beside_tables(one, other):
