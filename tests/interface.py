@@ -42,6 +42,54 @@ INTERFACE = {
         "is_leading": "one other thing", "mixes_within": "state most", "product_of": "one other",
         "like_states": "one other", "twin_state": "state",
     },
+    "readings": {
+        "quarter_tables": "", "is_quarter": "thing", "is_reading": "thing", "reading_of": "table",
+        "reading_table": "reading", "reading_put": "one other", "reading_back": "reading",
+        "fewest_eighths": "table", "eighths_saved": "circuit", "circuit_of_reading": "reading",
+        "axes_table": "table", "axes_power": "table", "words_of": "table length", "shortest_word": "table",
+    },
+    "counted": {
+        "tables_many": "many", "tables_at_most": "many", "reading_by_number": "number",
+        "number_of_reading": "reading", "next_reading": "reading", "letters_of": "table",
+        "letters_moved": "table letters", "way_between": "letters other", "middle_of": "letters other third",
+        "near_both": "letters other most", "least_shift": "table", "least_moved": "table",
+    },
+    "rounds": {
+        "main_sums": "table", "comes_round": "table", "round_length": "table", "whole_length": "table",
+        "round_paper": "table", "is_round_paper": "table thing", "power_far": "table times",
+        "turn_at": "table times", "power_like": "table other", "turned_about": "table other",
+        "all_round": "tables", "made_many": "tables", "endless_chain": "tables",
+        "is_endless_chain": "tables thing", "rounds_row": "most",
+    },
+    "marks": {
+        "is_marked": "thing", "place_led": "marked place", "marked_table": "marked", "marked_of": "circuit",
+        "marked_put": "one other", "marked_back": "marked", "marked_alike": "one other", "uneven_sum": "marks",
+        "is_uneven_sum": "marks thing", "turns_of": "marks", "polynomial_of": "turns", "plain_marks": "marks",
+        "marks_seen": "turns", "is_marks_seen": "turns thing", "bar_of_turns": "turns",
+        "is_turns_bar": "turns thing", "circuit_of_marked": "marked",
+    },
+    "fewest": {
+        "eighths_of": "circuit", "odd_row": "marks", "code_rows": "wires", "is_code_row": "thing",
+        "eighths_needed": "marked", "distances": "marks", "is_distances": "marks many thing",
+        "nearest_rows": "marks", "fewest_marked": "marked", "is_fewest": "marked thing",
+        "fewest_circuit": "circuit", "is_fewest_circuit": "circuit thing", "merged_off": "circuit",
+        "saved": "circuit", "is_quarter_map": "marked", "quarter_circuit": "marked",
+        "needed_between": "one other", "needing_many": "wires many", "hardest_row": "wires",
+    },
+    "rungs": {
+        "flip_table": "n flip", "flip_of": "table", "flips_put": "one other", "led": "table flip",
+        "flips_kept": "table", "first_unkept": "table", "rung_of": "table", "rungs_row": "table",
+        "rung_bar": "table rung", "is_rung_bar": "table rung thing", "steered": "table",
+        "marked_led": "marked flip", "rung_of_marked": "marked", "marked_bar": "marked rung",
+        "is_marked_bar": "marked rung thing", "quarters_many": "n",
+    },
+    "fills": {
+        "real_parts": "real", "real_norm": "real", "prime_often": "real prime", "primes_of": "real",
+        "is_a_size": "real", "ray_of_size": "real", "has_size": "ray real", "size_bar": "real",
+        "is_size_bar": "real thing", "rays_with_size": "real", "size_left": "rays", "can_fill": "rays many",
+        "filled_by": "rays many", "is_filled_by": "rays many thing", "fill_bar": "rays many",
+        "is_fill_bar": "rays many thing", "table_with": "ray", "is_table_with": "ray thing",
+    },
 }
 
 ERRORS = {

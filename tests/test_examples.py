@@ -22,7 +22,7 @@ def read_examples():
 
 class Examples(unittest.TestCase):
     def test_all_are_there(self):
-        self.assertEqual(len(read_examples()), 58)
+        self.assertEqual(len(read_examples()), 119)
 
     def test_each_gives_what_is_told(self):
         names, errors = functions(), vars(module_named("errors"))

@@ -6,7 +6,9 @@ import os
 import unittest
 
 FOLDER = os.path.join(os.path.dirname(os.path.dirname(os.path.abspath(__file__))), "eighthturns")
-ORDER = ("errors", "rays", "tables", "deeds", "circuits", "made", "states")
+ORDER = ("errors", "rays", "tables", "deeds", "circuits", "made", "states", "readings", "counted", "rounds", "marks",
+         "fewest", "rungs", "fills")
+LIBRARY = {"math": ("gcd", "isqrt", "comb")}
 BUILTINS = """len range enumerate zip min max sum abs sorted reversed int str bool list tuple dict set
 isinstance ord repr any all divmod LookupError ValueError""".split()
 METHODS = """append clear copy count endswith extend find get index insert isalnum isalpha isdigit islower
@@ -68,6 +70,9 @@ class Form(unittest.TestCase):
             self.assertFalse(nodes_of(text, ast.Import))
             for module, word in imported(text):
                 package, _, file = module.partition(".")
+                if package in LIBRARY:
+                    self.assertIn(word, LIBRARY[package])
+                    continue
                 self.assertEqual(package, "eighthturns")
                 tree = ast.parse(defined[file]).body
                 own = [node.name for node in tree if isinstance(node, (ast.FunctionDef, ast.ClassDef))]
@@ -81,7 +86,7 @@ class Form(unittest.TestCase):
         while ahead:
             for module, _ in imported(texts[ahead.pop()]):
                 file = module.partition(".")[2]
-                if file not in found:
+                if module not in LIBRARY and file not in found:
                     found.append(file)
                     ahead.append(file)
         return found
@@ -99,6 +104,14 @@ class Form(unittest.TestCase):
             used = {node.id for node in nodes_of(text, ast.Name)}
             for _, word in imported(text):
                 self.assertIn(word, used, name)
+
+    def test_what_is_drawn_from_the_library_is_only_called(self):
+        for name, text in package_files():
+            drawn = [word for module, word in imported(text) if module in LIBRARY]
+            used = [node.id for node in nodes_of(text, ast.Name) if node.id in drawn]
+            calls = nodes_of(text, ast.Call)
+            called = [node.func.id for node in calls if isinstance(node.func, ast.Name) and node.func.id in drawn]
+            self.assertEqual(sorted(used), sorted(called), name)
 
     def test_names(self):
         for name, text in package_files():

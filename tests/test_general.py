@@ -6,6 +6,7 @@ import unittest
 
 import drawn
 from asking import half_listed, holds_list, listed, outcome
+from calls import JUDGING, LISTS, MORE_CALLS
 from interface import ERRORS, INTERFACE, functions, module_named, parameters
 
 ZERO, ONE, W, HALF, LESS = drawn.ZERO, drawn.ONE, (0, 1, 0, 0, 0), drawn.HALF, drawn.LESS
@@ -107,6 +108,7 @@ CALLS = {
     "product_of": [(BENT_STATE, LOW), (UNIT, SIX)],
     "like_states": [(LOW, LOW), (LOW, BENT_STATE), (UNIT, SIX)],
     "twin_state": [(BENT_STATE,), (UNIT,)],
+    **MORE_CALLS,
 }
 
 
@@ -146,8 +148,8 @@ class AllFunctions(unittest.TestCase):
             named = dict(zip(parameters(name), args))
             self.assertEqual(outcome(function, **named), wanted)
             self.assertEqual(outcome(function, **dict(reversed(list(named.items())))), wanted)
-            first, rest = args[0], {key: named[key] for key in parameters(name)[1:]}
-            self.assertEqual(outcome(function, first, **rest), wanted)
+            rest = {key: named[key] for key in parameters(name)[1:]}
+            self.assertEqual(outcome(function, *args[:1], **rest), wanted)
 
     def test_arguments_stay_as_they_were(self):
         for name, function, args in self.each():
@@ -166,16 +168,27 @@ class AllFunctions(unittest.TestCase):
                 result = function(*changed(listed, parameters(name), args))
             except (LookupError, ValueError):
                 continue
-            self.assertFalse(holds_list(result))
-            if name.startswith(("is_", "are_", "can_")) or name in ("circuits_alike", "circuits_like"):
+            self.assertIs(isinstance(result, list), name in LISTS)
+            self.assertFalse(holds_list(tuple(result) if name in LISTS else result))
+            if name.startswith(("is_", "are_", "can_")) or name in JUDGING:
                 self.assertIn(result, (True, False))
                 self.assertIsInstance(result, bool)
             else:
                 self.assertNotIsInstance(result, bool)
 
+    def test_every_returned_list_is_new(self):
+        for name, function, args in self.each():
+            if name in LISTS:
+                wanted = outcome(function, *args)
+                if wanted[0] == "returned":
+                    own = function(*args)
+                    own.append(None)
+                    own[0] = None
+                    self.assertEqual(outcome(function, *args), wanted)
+
     def test_things_of_every_kind_are_judged_without_an_error(self):
         known = functions()
-        for name, args in [(name, args) for name in known for args in CALLS[name] if parameters(name)[-1] == "thing"]:
+        for name, args in [(name, args) for name in known for args in CALLS[name] if parameters(name)[-1:] == ["thing"]]:
             before = outcome(known[name], *args)
             for thing in drawn.things() + [ONE, EVEN, FINE, DEEDS, KNOT, LOW, ("H", 0), ("mix", 0, 1), ("odd", 0, 0)]:
                 found = outcome(known[name], *args[:-1], thing)
@@ -187,8 +200,8 @@ class AllFunctions(unittest.TestCase):
     def test_a_list_is_no_tuple_in_a_thing(self):
         known = functions()
         right = [(name, args) for name in known for args in CALLS[name]
-                 if parameters(name)[-1] == "thing" and outcome(known[name], *args) == ("returned", "True")]
-        self.assertEqual(len({name for name, _ in right}), 17)
+                 if parameters(name)[-1:] == ["thing"] and outcome(known[name], *args) == ("returned", "True")]
+        self.assertEqual(len({name for name, _ in right}), 35)
         for name, args in right:
             if isinstance(args[-1], tuple):
                 for change in (listed, half_listed, list):
