@@ -1,9 +1,8 @@
 """Counted: READINGS by number, and how far apart their LETTERS are."""
 
-from eighthturns.readings import (axes_power, letters_in, letters_table, quarter_tables, reading_letters,
-                                  reading_with)
+from eighthturns.axes import form_of, letters_of_form, times_letter
+from eighthturns.readings import letters_in, quarter_tables, reading_letters, reading_with
 from eighthturns.shapes import frozen
-from eighthturns.tables import table_product
 
 
 def tables_many(many):
@@ -76,7 +75,10 @@ def letters_of(table):
 
 def letters_moved(table, letters):
     """The LETTERS of the table times a TABLE that has these LETTERS."""
-    return letters_in(table_product(table, letters_table(letters)))
+    form = form_of(table)
+    for letter in letters:
+        form = times_letter(form, letter)
+    return letters_of_form(form)
 
 
 def beginning_of(one, other):
@@ -120,7 +122,8 @@ def near_both(letters, other, most):
 
 def least_shift(table):
     """The least number by which LETTERS and the same ones moved by the table are apart."""
-    once, twice = axes_power(table), axes_power(table_product(table, table))
+    letters = letters_of(table)
+    once, twice = len(letters), len(letters_moved(table, letters))
     if twice > once:
         return twice - once
     # None is shifted for good: some LETTERS stay, or two neighbours change places.

@@ -3,13 +3,16 @@
 from math import comb
 
 from eighthturns.circuits import is_circuit
-from eighthturns.errors import NoPaper, TooMany
+from eighthturns.errors import NoPaper
 from eighthturns.maps import (MOST_WIRES, check_few, check_maps, gates_of_map, is_marked_map, least_sum,
                               map_of_circuit, maps_back, maps_put, parity, same_maps, wires_of_marks)
 from eighthturns.shapes import are_below, frozen, is_number
 
 MAP_WORDS = ("W", "X", "CX", "T", "S", "Z", "CZ")
-MOST_COUNTED = 4
+# Of 5 wires, found once by going over all odd rows: how many need 0, 1, ..
+# eighths, and the least of the hardest ones, its members read as one number.
+NEEDS_OF_FIVE = (1, 31, 465, 4495, 31465, 169911, 736281, 2629575, 7490220, 13798100, 8265964, 427924)
+HARDEST_OF_FIVE = 463677
 # For 1, 2, .. wires: of how many numbers the parities are CODE ROWS, and whether these turned about are, too.
 ROW_KINDS = ((1, 1), (1, 1), (1, 1), (1, 2), (32, 2))
 
@@ -137,24 +140,27 @@ def needed_between(one, other):
     return eighths_needed(maps_put(maps_back(one), other))
 
 
-def needs_of_weights(wires):
-    """For each number of ones how many eighths the odd rows with so many need, to 4 wires."""
-    if wires > MOST_COUNTED:
-        raise TooMany()
+def needs_row(wires):
+    """How many odd rows need 0, 1, .. eighths, those that differ by a CODE ROW counted once."""
+    check_few(wires)
+    if wires == MOST_WIRES:
+        return NEEDS_OF_FIVE
     length = (1 << wires) - 1
-    # To 3 wires no row but 0 is a CODE ROW, of 4 wires the one of ones alone, too.
-    return [min(ones, length - ones) if wires == 4 else ones for ones in range(length + 1)]
+    # To 3 wires no row but 0 is a CODE ROW. Of 4 wires the one of ones alone
+    # is, too: each row is counted with the one that has ones where it has none.
+    most = length // 2 if wires == 4 else length
+    return tuple([comb(length, many) for many in range(most + 1)])
 
 
 def needing_many(wires, many):
     """How many odd rows need so many eighths, those that differ by a CODE ROW counted once."""
-    needs = needs_of_weights(wires)
-    rows = [comb(len(needs) - 1, ones) for ones, needed in enumerate(needs) if needed == many]
-    return sum(rows) // len(code_rows(wires))
+    needs = needs_row(wires)
+    return needs[many] if 0 <= many < len(needs) else 0
 
 
 def hardest_row(wires):
     """The pair of the most that MARKS can need and the least odd row that does."""
-    needs = needs_of_weights(wires)
-    ones = needs.index(max(needs))
-    return max(needs), (0,) * (len(needs) - 1 - ones) + (1,) * ones
+    most = len(needs_row(wires)) - 1
+    number = HARDEST_OF_FIVE if wires == MOST_WIRES else (1 << most) - 1
+    length = (1 << wires) - 1
+    return most, tuple([number >> (length - 1 - at) & 1 for at in range(length)])

@@ -1,14 +1,15 @@
 """Readings: each upright TABLE of one wire told in just one way, by the eighths in it."""
 
-from eighthturns.circuits import circuit_table, gate_table
-from eighthturns.downs import power_of
+from eighthturns.axes import STILL_FORM, form_of, letters_of_form, times_eighth, times_hat, times_quarter
+from eighthturns.circuits import circuit_table
 from eighthturns.errors import TooMany
 from eighthturns.made import least_power
 from eighthturns.rays import ONE, ZERO, eighth_of, over_root, ray_sum, turned_ray
 from eighthturns.shapes import frozen, is_below
-from eighthturns.tables import is_table, is_upright, like_turn, still_table, table_mirrored, table_product, turns_to
+from eighthturns.tables import is_table, is_upright, still_table, table_mirrored, table_product, turns_to
 
 LETTER_WORDS = ("TH", "THS", "T")
+MOST_LETTERS = 6
 
 
 def quarter_tables():
@@ -28,7 +29,7 @@ def quarter_tables():
 def is_quarter(thing):
     """Whether thing is a QUARTER TABLE."""
     # These are just the upright TABLES that have no eighths.
-    return is_table(thing) and len(thing) == 2 and is_upright(thing) and axes_power(thing) == 0
+    return is_table(thing) and len(thing) == 2 and is_upright(thing) and fewest_eighths(thing) == 0
 
 
 def is_reading(thing):
@@ -62,17 +63,7 @@ def letters_table(letters):
 
 def letters_in(table):
     """The LETTERS of the TABLE."""
-    backs = [axes_table(table_mirrored(own)) for own in letter_tables()]
-    axes = axes_table(table)
-    letters = []
-    while least_power(axes) > 0:
-        # Of the three AXES just one row has a lower power than the others,
-        # and the letter that stands leftmost is the one of that number.
-        powers = [power_of(row) for row in axes]
-        letter = powers.index(min(powers))
-        letters.append(letter)
-        axes = table_product(backs[letter], axes)
-    return tuple(letters)
+    return letters_of_form(form_of(table))
 
 
 def reading_letters(reading):
@@ -110,7 +101,7 @@ def reading_back(reading):
 
 def fewest_eighths(table):
     """The eighths of the READING of the TABLE."""
-    return axes_power(table)
+    return len(letters_in(table))
 
 
 def eighths_saved(circuit):
@@ -169,24 +160,31 @@ def axes_power(table):
     return least_power(axes_table(table))
 
 
-def words_made(length):
-    """The pairs of all WORDS of so many letters, ascending, and their TABLES."""
-    tables = [(letter, gate_table(1, (letter, 0))) for letter in "HST"]
-    made = [("", still_table(2))]
-    for _ in range(length):
-        made = [(word + letter, table_product(own, table)) for word, table in made for letter, own in tables]
-    return made
+def words_longer(words_with):
+    """For each FORM the list of the WORDS with it, one letter longer than these."""
+    longer = {}
+    for form in words_with:
+        ahead = [("H", times_hat(form)), ("S", times_quarter(form)), ("T", times_eighth(form))]
+        for letter, own in ahead:
+            longer.setdefault(own, []).extend([letter + word for word in words_with[form]])
+    return longer
 
 
 def words_of(table, length):
     """The list of all WORDS of so many letters whose TABLE is like this one."""
-    return [word for word, made in words_made(length) if like_turn(table, made) is not None]
+    words_with = {STILL_FORM: [""]}
+    for _ in range(length):
+        words_with = words_longer(words_with)
+    return sorted(words_with.get(form_of(table), []))
 
 
 def shortest_word(table):
     """Of the WORDS of fewest letters with a TABLE like this one the least."""
-    for length in range(7):
-        words = words_of(table, length)
-        if len(words) > 0:
-            return words[0]
-    raise TooMany()
+    wanted = form_of(table)
+    words_with = {STILL_FORM: [""]}
+    for _ in range(MOST_LETTERS):
+        if wanted not in words_with:
+            words_with = words_longer(words_with)
+    if wanted not in words_with:
+        raise TooMany()
+    return min(words_with[wanted])

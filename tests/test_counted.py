@@ -124,6 +124,18 @@ class Letters(unittest.TestCase):
                     product = table_product(table, reading_table(reading_with(letters, rest)))
                     self.assertEqual(letters_of_reading(reading_of(product)), moved)
 
+    def test_some_hundred_tables(self):
+        draw = drawn.rng(21)
+        for table in tables(21, (0, 0, 1, 2, 3, 5, 9, 20) * 40):
+            own, letters = letters_of(table), onewire.letters(draw, draw.randint(0, 200))
+            moved = letters_moved(table, letters)
+            self.assertEqual(letters_moved(table, ()), own)
+            self.assertEqual(onewire.apart(own, moved), len(letters))
+            self.assertEqual(letters_moved(table_mirrored(table), moved), letters)
+            spot, shift = least_moved(table), least_shift(table)
+            self.assertEqual(onewire.apart(spot, letters_moved(table, spot)), shift)
+            self.assertTrue(onewire.apart(letters, moved) >= shift)
+
     def test_apart_as_there_are_eighths(self):
         draw = drawn.rng(4)
         for _ in range(25):

@@ -1,6 +1,7 @@
 """[14]: fewest.py, by all CODE ROWS, by search and against another way to reckon."""
 
 import itertools
+import math
 import unittest
 
 import drawn
@@ -298,6 +299,30 @@ class Counted(unittest.TestCase):
         self.assertEqual(hardest_row(4), (7, hardest))
         self.assertEqual(sum(needing_many(4, many) for many in range(16)), 2 ** 14)
 
+    def numbers_of_rows(self):
+        return [int("".join(map(str, row)), 2) for row in ROWS[5]]
+
+    def test_of_five_wires(self):
+        needs = [needing_many(5, many) for many in range(-1, 33)]
+        self.assertEqual(needs[:10], [0] + [math.comb(31, many) for many in range(8)] + [needs[9]])
+        self.assertEqual(needs[13:], [0] * 21)
+        self.assertEqual(sum(needs), 2 ** 25)
+        draw, codes, many = drawn.rng(31), self.numbers_of_rows(), 40000
+        seen = [0] * 32
+        for _ in range(many):
+            row = draw.getrandbits(31)
+            seen[min((row ^ code).bit_count() for code in codes)] += 1
+        for needed, own in enumerate(seen):
+            self.assertAlmostEqual(own / many, needing_many(5, needed) / 2 ** 25, delta=0.01)
+
+    def test_the_hardest_row_of_five_wires(self):
+        most, row = hardest_row(5)
+        self.assertEqual((most, len(row), set(row)), (11, 31, {0, 1}))
+        self.assertEqual(min(distances(row)), 11)
+        codes = self.numbers_of_rows()
+        for number in range(int("".join(map(str, row)), 2)):
+            self.assertTrue(any((number ^ code).bit_count() < 11 for code in codes))
+
 
 class Bounds(unittest.TestCase):
     def test_too_many_wires_ahead_of_all_else(self):
@@ -308,7 +333,7 @@ class Bounds(unittest.TestCase):
                  (fewest_circuit, (6, (("H", 0),))), (is_fewest_circuit, (6, (("H", 0),)), None), (is_fewest_circuit, (6, ()), (6, ())),
                  (merged_off, (6, ())), (merged_off, (6, (("H", 0),))), (saved, (6, ())), (saved, (6, (("H", 0),))), (is_quarter_map, SIX),
                  (quarter_circuit, SIX), (quarter_circuit, SIX[:3] + ((1,) + (0,) * 62,)), (needed_between, SIX, SIX),
-                 (needed_between, SIX, two), (needed_between, two, SIX), (needing_many, 5, 0), (needing_many, 6, 0), (needing_many, 6, -1), (hardest_row, 5), (hardest_row, 6)]
+                 (needed_between, SIX, two), (needed_between, two, SIX), (needing_many, 6, 0), (needing_many, 6, -1), (needing_many, 60, 1), (hardest_row, 6), (hardest_row, 60)]
         for function, *args in calls:
             with self.assertRaises(TooMany):
                 function(*args)

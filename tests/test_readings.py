@@ -219,6 +219,19 @@ class Words(unittest.TestCase):
                 wanted = [word for word in self.found(table) if len(word) == length]
                 self.assertEqual(words_of(table, length), sorted(wanted))
 
+    def test_some_hundred_tables(self):
+        wanted = 0
+        for table in self.tables(18, (0, 1, 2, 4, 6, 7, 9, 12, 20, 40) * 30):
+            words = self.found(table)
+            self.assertEqual(words_of(table, 6), sorted(word for word in words if len(word) == 6))
+            if words:
+                self.assertEqual(shortest_word(table), min(words, key=lambda word: (len(word), word)))
+            else:
+                wanted += 1
+                with self.assertRaises(TooMany):
+                    shortest_word(table)
+        self.assertTrue(20 < wanted < 200, wanted)
+
     def test_none_and_the_empty_one(self):
         self.assertEqual(words_of(BARE, 0), [""])
         self.assertEqual(words_of(TURN, 0), [])
