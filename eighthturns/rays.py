@@ -15,11 +15,13 @@ def root_divides(numbers):
 
 def times_root(numbers, many):
     """The four numbers of a whole RAY multiplied by root so many times."""
+    if many == 0:
+        return tuple(numbers)
     twos = many // 2
-    a, b, c, d = [number << twos for number in numbers]
+    a, b, c, d = numbers
     if many % 2 == 1:
-        return b - d, a + c, b + d, c - a
-    return a, b, c, d
+        a, b, c, d = b - d, a + c, b + d, c - a
+    return a << twos, b << twos, c << twos, d << twos
 
 
 def is_ray(thing):
@@ -44,11 +46,11 @@ def ray_of(numbers, k):
 def rays_added(rays):
     """The sum of these RAYS."""
     k = max([ray[4] for ray in rays], default=0)
-    sums = [0, 0, 0, 0]
+    a = b = c = d = 0
     for ray in rays:
-        numbers = times_root(ray[:4], k - ray[4])
-        sums = [one + other for one, other in zip(sums, numbers)]
-    return ray_of(sums, k)
+        e, f, g, h = times_root(ray[:4], k - ray[4])
+        a, b, c, d = a + e, b + f, c + g, d + h
+    return ray_of((a, b, c, d), k)
 
 
 def ray_sum(one, other):
@@ -79,8 +81,10 @@ def turned_ray(ray, many):
 
 def mixed_rays(one, other):
     """The pair of what a mix makes of two RAYS."""
-    less = ray_sum(one, turned_ray(other, 4))
-    return over_root(ray_sum(one, other), 1), over_root(less, 1)
+    k = max(one[4], other[4])
+    a, b, c, d = times_root(one[:4], k - one[4])
+    e, f, g, h = times_root(other[:4], k - other[4])
+    return ray_of((a + e, b + f, c + g, d + h), k + 1), ray_of((a - e, b - f, c - g, d - h), k + 1)
 
 
 def mirrored(ray):

@@ -67,7 +67,7 @@ def all_with_size(real):
             # Each RAY has a turn with the first number above 0, the third not below it.
             for many in range(8):
                 found[turned_ray(ray_of(numbers, m), many)] = True
-    return sorted(found)
+    return sorted(list(found))
 
 
 def balanced(whole, roots):

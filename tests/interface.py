@@ -90,6 +90,37 @@ INTERFACE = {
         "filled_by": "rays many", "is_filled_by": "rays many thing", "fill_bar": "rays many",
         "is_fill_bar": "rays many thing", "table_with": "ray", "is_table_with": "ray thing",
     },
+    "helpers": {
+        "determinant_turn": "table", "wires_alone": "table", "gates_for": "table", "is_gates_for": "table thing",
+        "helper_bar": "table", "is_helper_bar": "table thing", "with_helper": "table",
+        "is_with_helper": "table thing", "helper_back": "circuit", "helped_table": "circuit",
+        "helper_left": "circuit", "is_helper_left": "circuit thing", "alone_turns": "table", "controlled": "table",
+        "gates_of_deed": "n deed", "two_turned": "n one other",
+    },
+    "rowcounts": {
+        "rays_of_size": "a b", "sizes_to": "most", "states_many": "N k", "states_of_power": "N k",
+        "state_by_number": "N k number", "number_of_state": "state k", "rests_of": "state k", "rests_many": "N k",
+        "shapes_of": "N k", "shape_of": "state k", "shape_many": "shape", "plain_state": "state", "plain_many": "N k",
+    },
+    "told": {
+        "fit_for": "sights", "is_fit": "sights thing", "clash_of": "sights", "is_clash": "sights thing",
+        "sure_sizes": "sights",
+    },
+    "judge": {
+        "is_claim": "thing", "is_so": "claim", "paper": "claim", "is_paper": "claim thing", "shows": "claim thing",
+        "not_so": "claims", "words_so": "claims",
+    },
+    "texts": {
+        "table_text": "table", "deeds_text": "deeds", "circuit_text": "circuit", "table_read": "text",
+        "deeds_read": "text", "circuit_read": "text",
+    },
+    "desk": {"is_request": "line", "replies": "wires text"},
+}
+
+# The class Board of board.py: its methods, and what they are told behind their own object.
+BOARD_METHODS = {
+    "__init__": "wires", "circuit_now": "", "table_now": "", "edits": "", "do": "edit", "put_last": "gate", "undo": "",
+    "redo": "", "behind": "place", "eighths_now": "", "like_at": "many", "__eq__": "other", "__len__": "",
 }
 
 ERRORS = {

@@ -22,10 +22,11 @@ def read_examples():
 
 class Examples(unittest.TestCase):
     def test_all_are_there(self):
-        self.assertEqual(len(read_examples()), 119)
+        self.assertEqual(len(read_examples()), 179)
 
     def test_each_gives_what_is_told(self):
         names, errors = functions(), vars(module_named("errors"))
+        names["Board"] = module_named("board").Board
         for source, told in read_examples():
             with self.subTest(source=source):
                 if told == "":

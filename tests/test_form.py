@@ -7,13 +7,16 @@ import unittest
 
 FOLDER = os.path.join(os.path.dirname(os.path.dirname(os.path.abspath(__file__))), "eighthturns")
 ORDER = ("errors", "rays", "tables", "deeds", "circuits", "made", "states", "readings", "counted", "rounds", "marks",
-         "fewest", "rungs", "fills")
+         "fewest", "rungs", "fills", "helpers", "rowcounts", "told", "judge",
+         "texts", "board", "desk")
 LIBRARY = {"math": ("gcd", "isqrt", "comb")}
 BUILTINS = """len range enumerate zip min max sum abs sorted reversed int str bool list tuple dict set
 isinstance ord repr any all divmod LookupError ValueError""".split()
 METHODS = """append clear copy count endswith extend find get index insert isalnum isalpha isdigit islower
 isspace isupper items join keys ljust lower lstrip partition pop remove replace reverse rfind rjust rpartition
-rsplit rstrip setdefault split splitlines startswith strip update upper values zfill bit_length""".split()
+rsplit rstrip setdefault split splitlines startswith strip update upper values zfill bit_length isascii""".split()
+OWN_METHODS = "circuit_now circuit_behind do undo redo behind eighths_now like_at".split()
+OWN_ERRORS = "NoPlace NoWire NoGate NoEdit NothingDone".split()
 NOT_WORDS = """type typing enum Enum Flag Generic Protocol ABC namedtuple dataclass overload global async
 register mro elements open input law chr exec eval""".split()
 
@@ -61,7 +64,7 @@ class Form(unittest.TestCase):
     def test_each_function_and_class_says_what_it_is(self):
         for name, text in package_files():
             for node in nodes_of(text, ast.FunctionDef, ast.ClassDef, ast.Module):
-                if getattr(node, "name", "") != "__init__":
+                if not getattr(node, "name", "").startswith("__"):
                     self.assertTrue(ast.get_docstring(node), (name, getattr(node, "name", "")))
 
     def test_imports_name_the_very_file(self):
@@ -127,10 +130,10 @@ class Form(unittest.TestCase):
                     self.assertIn(node.id, BUILTINS, name)
             for node in nodes_of(text, ast.Call):
                 if isinstance(node.func, ast.Attribute):
-                    self.assertIn(node.func.attr, METHODS, name)
+                    self.assertIn(node.func.attr, METHODS + OWN_METHODS, name)
 
     def test_signs_that_are_not_used(self):
-        kinds = (ast.GeneratorExp, ast.Yield, ast.Div, ast.Global, ast.AsyncFunctionDef, ast.Pow, ast.Try, ast.Set,
+        kinds = (ast.GeneratorExp, ast.Yield, ast.Div, ast.Global, ast.AsyncFunctionDef, ast.Pow, ast.Set,
                  ast.JoinedStr, ast.Lambda, ast.Starred, ast.NamedExpr)
         for name, text in package_files():
             self.assertFalse(nodes_of(text, *kinds), name)
@@ -140,6 +143,13 @@ class Form(unittest.TestCase):
             for node in nodes_of(text, ast.Constant, ast.Name, ast.Attribute):
                 word = getattr(node, "value", getattr(node, "id", ""))
                 self.assertFalse(isinstance(word, str) and word in NOT_WORDS)
+
+    def test_own_errors_alone_are_caught(self):
+        for name, text in package_files():
+            for node in nodes_of(text, ast.Try):
+                self.assertEqual(name, "desk.py")
+                self.assertFalse(node.orelse or node.finalbody)
+                self.assertEqual(sorted(own.type.id for own in node.handlers), sorted(OWN_ERRORS))
 
     def test_module_level(self):
         kinds = (ast.FunctionDef, ast.ClassDef, ast.ImportFrom, ast.Assign, ast.Expr)

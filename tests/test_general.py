@@ -6,8 +6,9 @@ import unittest
 
 import drawn
 from asking import half_listed, holds_list, listed, outcome
-from calls import JUDGING, LISTS, MORE_CALLS
+from calls import JUDGING, LISTS as EARLIER_LISTS, MORE_CALLS
 from interface import ERRORS, INTERFACE, functions, module_named, parameters
+from later_calls import LATER_CALLS, LATER_JUDGING, LATER_LISTS
 
 ZERO, ONE, W, HALF, LESS = drawn.ZERO, drawn.ONE, (0, 1, 0, 0, 0), drawn.HALF, drawn.LESS
 QUARTER = (1, 0, 0, 0, 2)
@@ -108,8 +109,9 @@ CALLS = {
     "product_of": [(BENT_STATE, LOW), (UNIT, SIX)],
     "like_states": [(LOW, LOW), (LOW, BENT_STATE), (UNIT, SIX)],
     "twin_state": [(BENT_STATE,), (UNIT,)],
-    **MORE_CALLS,
+    **MORE_CALLS, **LATER_CALLS,
 }
+LISTS = EARLIER_LISTS + LATER_LISTS
 
 
 def changed(change, names, args):
@@ -170,10 +172,10 @@ class AllFunctions(unittest.TestCase):
                 continue
             self.assertIs(isinstance(result, list), name in LISTS)
             self.assertFalse(holds_list(tuple(result) if name in LISTS else result))
-            if name.startswith(("is_", "are_", "can_")) or name in JUDGING:
+            if name.startswith(("is_", "are_", "can_")) or name in JUDGING + LATER_JUDGING:
                 self.assertIn(result, (True, False))
                 self.assertIsInstance(result, bool)
-            else:
+            elif name != "shows":
                 self.assertNotIsInstance(result, bool)
 
     def test_every_returned_list_is_new(self):
@@ -195,18 +197,19 @@ class AllFunctions(unittest.TestCase):
                 if before[0] == "raised":
                     self.assertEqual(found, before)
                 else:
-                    self.assertIn(found, (("returned", "True"), ("returned", "False")))
+                    told = ("True", "False", "None") if name == "shows" else ("True", "False")
+                    self.assertIn(found, [("returned", own) for own in told])
 
     def test_a_list_is_no_tuple_in_a_thing(self):
         known = functions()
         right = [(name, args) for name in known for args in CALLS[name]
                  if parameters(name)[-1:] == ["thing"] and outcome(known[name], *args) == ("returned", "True")]
-        self.assertEqual(len({name for name, _ in right}), 35)
+        self.assertEqual(len({name for name, _ in right}), 44)
         for name, args in right:
             if isinstance(args[-1], tuple):
                 for change in (listed, half_listed, list):
                     if repr(change(args[-1])) != repr(args[-1]):
-                        self.assertIs(known[name](*args[:-1], change(args[-1])), False)
+                        self.assertIs(known[name](*args[:-1], change(args[-1])), None if name == "shows" else False)
 
 
 class Errors(unittest.TestCase):
